@@ -11,10 +11,17 @@ import (
 // never is more than faults of any part cost.
 const never = 1000
 
+// line is a line of the text, with its number there, by which faults are told.
+type line struct {
+	number int
+	words  []string
+}
+
 // writing is a part that is gone through with its sheet: the lines of both, and what faults cost, at least, from where they stand.
 type writing struct {
-	part, sheet [][]string
-	known       map[stand]int
+	part  []line
+	sheet [][]string
+	known map[stand]int
 }
 
 // stand is how many lines of a part and of its sheet are gone through, and whether the last one of the part was written.
@@ -26,8 +33,8 @@ type stand struct {
 // newWriting returns the writing of a part that is back.
 func (r round) newWriting(part int) writing {
 	w := writing{sheet: r.Sheets[part].Lines, known: map[stand]int{}}
-	for _, line := range r.linesOf(part) {
-		w.part = append(w.part, line)
+	for n, words := range r.linesOf(part) {
+		w.part = append(w.part, line{n, words})
 	}
 	return w
 }
@@ -43,19 +50,23 @@ type deed struct {
 func deeds() [3]deed { return [...]deed{{do: repeat}, {do: write}, {do: skip}} }
 
 func repeat(w writing, s stand) (stand, api.Fault, bool) {
-	if !s.isWritten || s.sheet == len(w.sheet) || !slices.Equal(w.sheet[s.sheet], w.part[s.part-1]) {
+	if !s.isWritten || s.sheet == len(w.sheet) {
 		return stand{}, api.Fault{}, false
 	}
-	return stand{s.part, s.sheet + 1, true}, api.Fault{Kind: api.FaultRepeat, Line: s.part - 1}, true
+	last := w.part[s.part-1]
+	if !slices.Equal(w.sheet[s.sheet], last.words) {
+		return stand{}, api.Fault{}, false
+	}
+	return stand{s.part, s.sheet + 1, true}, api.Fault{Kind: api.FaultRepeat, Line: last.number}, true
 }
 
 func write(w writing, s stand) (stand, api.Fault, bool) {
 	if s.part == len(w.part) || s.sheet == len(w.sheet) {
 		return stand{}, api.Fault{}, false
 	}
-	to, fault := stand{s.part + 1, s.sheet + 1, true}, api.Fault{}
-	if words, _ := leaf.Apart(textOf(w.part[s.part]), textOf(w.sheet[s.sheet])); words > 0 {
-		fault = api.Fault{Kind: api.FaultRead, Line: s.part, Words: words}
+	to, fault, next := stand{s.part + 1, s.sheet + 1, true}, api.Fault{}, w.part[s.part]
+	if words, _ := leaf.Apart(textOf(next.words), textOf(w.sheet[s.sheet])); words > 0 {
+		fault = api.Fault{Kind: api.FaultRead, Line: next.number, Words: words}
 	}
 	return to, fault, true
 }
@@ -64,7 +75,7 @@ func skip(w writing, s stand) (stand, api.Fault, bool) {
 	if s.part == len(w.part) {
 		return stand{}, api.Fault{}, false
 	}
-	return stand{s.part + 1, s.sheet, false}, api.Fault{Kind: api.FaultSkip, Line: s.part}, true
+	return stand{s.part + 1, s.sheet, false}, api.Fault{Kind: api.FaultSkip, Line: w.part[s.part].number}, true
 }
 
 // cost returns what a fault costs, and 0 if it is none.
